@@ -1,0 +1,1 @@
+"""Subspaces over the integers modulo a small prime."""

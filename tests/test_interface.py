@@ -1,0 +1,159 @@
+"""Names, arguments and kinds of values as the interface lists them, and what point 1 says of all functions."""
+
+import copy
+import importlib
+import inspect
+import unittest
+
+from smallspaces.errors import InvalidNumber, InvalidRow, InvalidRows, InvalidSetting, InvalidSubspace
+from smallspaces.rows import combine, is_row, is_setting, product
+from smallspaces.spans import has_row, is_inside, is_subspace, members, span
+from tests.helpers import SETTINGS, all_rows, all_spaces, some_rows
+
+FUNCTIONS = {
+    "smallspaces.rows": {
+        "is_setting": ["value"],
+        "is_row": ["setting", "value"],
+        "combine": ["setting", "one", "factor", "other"],
+        "product": ["setting", "one", "other"],
+    },
+    "smallspaces.spans": {
+        "is_subspace": ["setting", "value"],
+        "span": ["setting", "rows"],
+        "members": ["setting", "space"],
+        "has_row": ["setting", "space", "row"],
+        "is_inside": ["setting", "one", "other"],
+    },
+}
+
+# The examples that the interface gives.
+EXAMPLES = [
+    (is_setting, ((2, 3),), True),
+    (is_row, ((2, 3), (1, 0, 2)), False),
+    (combine, ((3, 2), (1, 2), 2, (1, 1)), (0, 1)),
+    (product, ((3, 2), (1, 2), (1, 1)), 0),
+    (is_subspace, ((2, 3), ((1, 0, 1), (0, 1, 1))), True),
+    (span, ((2, 3), [(1, 1, 0), (0, 1, 1)]), ((1, 0, 1), (0, 1, 1))),
+    (members, ((2, 2), ((1, 1),)), [(0, 0), (1, 1)]),
+    (has_row, ((2, 2), ((1, 1),), (1, 0)), False),
+    (is_inside, ((2, 2), (), ((1, 1),)), True),
+]
+
+# Calls that raise an exception, with lists in their arguments.
+WRONG_CALLS = [
+    (is_row, ([2, 3], [1, 0, 1]), InvalidSetting),
+    (combine, ((2, 2), [1, 0], 1, [1, 1]), InvalidRow),
+    (combine, ((2, 2), (1, 0), [1], [1, 1]), InvalidNumber),
+    (combine, ((2, 2), (1, 0), 1, [1, 1]), InvalidRow),
+    (product, ((2, 2), (1, 0), [1, 1]), InvalidRow),
+    (is_subspace, ([2, 2], [(1, 0), (1, 0)]), InvalidSetting),
+    (span, ([2, 2], [(1, 0), (1, 1)]), InvalidSetting),
+    (span, ((2, 2), [(1, 1), (1, 0), [0, 1]]), InvalidRows),
+    (span, ((2, 2), [(1, 1), (1, 0), (2, 1)]), InvalidRows),
+    (span, ((2, 2), [(1, 1), (1, 0)] * 7), InvalidRows),
+    (members, ((2, 2), [(1, 1), (1, 0)]), InvalidSubspace),
+    (has_row, ((2, 2), [(1, 1), (1, 0)], (1, 1)), InvalidSubspace),
+    (has_row, ((2, 2), ((1, 1),), [1, 1]), InvalidRow),
+    (is_inside, ((2, 2), [(1, 1), (1, 0)], ((1, 1),)), InvalidSubspace),
+    (is_inside, ((2, 2), ((1, 1),), [(1, 1), (1, 0)]), InvalidSubspace),
+]
+
+
+def valid_calls(setting):
+    """Return some calls of each function, as pairs of it and its arguments."""
+    p, n = setting
+    rows = all_rows(setting)
+    one, other = rows[len(rows) // 2], rows[-1]
+    spaces = all_spaces(setting)
+    calls = [(is_setting, (setting,)), (is_setting, ([p, n],))]
+    calls = calls + [(is_row, (setting, one)), (is_row, (setting, list(one)))]
+    calls = calls + [(combine, (setting, one, p - 1, other)), (product, (setting, one, other))]
+    calls = calls + [(is_subspace, (setting, spaces[-1])), (is_subspace, (setting, [other, one]))]
+    for many in (0, 1, 5, 12):
+        calls.append((span, (setting, some_rows(setting, many, many))))
+    calls.append((span, (setting, [other, other, one, one])))
+    for space in spaces[::5] + spaces[-1:]:
+        calls = calls + [(members, (setting, space)), (has_row, (setting, space, one))]
+        calls = calls + [(is_inside, (setting, space, spaces[-1])), (is_inside, (setting, spaces[-1], space))]
+    return calls
+
+
+class NamesTest(unittest.TestCase):
+
+    def test_each_function_is_defined_in_the_file_that_lists_it(self):
+        for file, functions in FUNCTIONS.items():
+            module = importlib.import_module(file)
+            for name in functions:
+                function = getattr(module, name)
+                self.assertTrue(inspect.isfunction(function), name)
+                self.assertEqual((function.__name__, function.__module__), (name, file))
+
+    def test_each_function_has_the_arguments_of_the_interface(self):
+        for file, functions in FUNCTIONS.items():
+            for name, arguments in functions.items():
+                parameters = inspect.signature(getattr(importlib.import_module(file), name)).parameters
+                self.assertEqual(list(parameters), arguments, name)
+                for parameter in parameters.values():
+                    self.assertIs(parameter.kind, inspect.Parameter.POSITIONAL_OR_KEYWORD)
+                    self.assertIs(parameter.default, inspect.Parameter.empty)
+
+    def test_arguments_may_be_given_by_name(self):
+        for function, arguments, expected in EXAMPLES:
+            names = FUNCTIONS[function.__module__][function.__name__]
+            self.assertEqual(function(**dict(zip(names, arguments))), expected)
+
+
+class EveryFunctionTest(unittest.TestCase):
+
+    def test_examples_of_the_interface(self):
+        for function, arguments, expected in EXAMPLES:
+            found = function(*arguments)
+            self.assertEqual(found, expected, function.__name__)
+            self.assertIs(type(found), type(expected), function.__name__)
+
+    def test_arguments_stay_as_they_are_and_equal_calls_return_equal_results(self):
+        for setting in SETTINGS:
+            for function, arguments in valid_calls(setting):
+                before = copy.deepcopy(arguments)
+                found = function(*arguments)
+                self.assertEqual(arguments, before, function.__name__)
+                self.assertEqual(function(*arguments), found, function.__name__)
+                self.assertEqual(function(*before), found, function.__name__)
+
+    def test_the_order_of_calls_does_not_matter(self):
+        calls = [call for setting in SETTINGS for call in valid_calls(setting)]
+        found = [function(*arguments) for function, arguments in calls]
+        again = [function(*arguments) for function, arguments in reversed(calls)]
+        self.assertEqual(found, again[::-1])
+
+    def test_a_returned_list_is_a_new_list(self):
+        for setting in SETTINGS:
+            for space in all_spaces(setting):
+                found = members(setting, space)
+                expected = list(found)
+                self.assertIsNot(members(setting, space), found)
+                found.append("changed by its caller")
+                found[0] = None
+                self.assertEqual(members(setting, space), expected)
+
+    def test_a_list_that_its_caller_changes_gives_a_new_answer(self):
+        rows = [(1, 0)]
+        self.assertEqual(span((2, 2), rows), ((1, 0),))
+        rows[0] = (0, 1)
+        self.assertEqual(span((2, 2), rows), ((0, 1),))
+        rows.append((1, 1))
+        self.assertEqual(span((2, 2), rows), ((1, 0), (0, 1)))
+
+    def test_a_call_that_raises_changes_nothing(self):
+        for function, arguments, expected in WRONG_CALLS:
+            before = copy.deepcopy(arguments)
+            for _ in range(2):
+                with self.assertRaises(expected):
+                    function(*arguments)
+                self.assertEqual(arguments, before, function.__name__)
+            for right_function, right_arguments, result in EXAMPLES:
+                self.assertEqual(right_function(*right_arguments), result)
+
+
+if __name__ == "__main__":
+    unittest.main()
