@@ -14,6 +14,12 @@ def is_number(value, low, high):
     return low <= value <= high
 
 
+def check_number(value, greatest):
+    """Raise InvalidNumber if value is not an integer from 0 to greatest."""
+    if not is_number(value, 0, greatest):
+        raise InvalidNumber(f"the number is not an integer from 0 to {greatest}")
+
+
 def is_setting(value):
     """Return whether value is a setting."""
     if not isinstance(value, tuple) or len(value) != 2:
@@ -49,8 +55,7 @@ def combine(setting, one, factor, other):
     check_setting(setting)
     check_row(setting, one)
     p = setting[0]
-    if not is_number(factor, 0, p - 1):
-        raise InvalidNumber("a factor is an integer from 0 to p - 1")
+    check_number(factor, p - 1)
     check_row(setting, other)
     return add_multiple(p, one, factor, other)
 

@@ -64,6 +64,13 @@ def check_subspace(setting, space):
         raise InvalidSubspace("a subspace is a tuple of reduced rows of the setting")
 
 
+def check_two_subspaces(setting, one, other):
+    """Raise InvalidSetting if setting is none, or InvalidSubspace if one or other is none."""
+    check_setting(setting)
+    check_subspace(setting, one)
+    check_subspace(setting, other)
+
+
 def span(setting, rows):
     """Return the tuple of reduced rows that is the span of the rows."""
     check_setting(setting)
@@ -96,9 +103,12 @@ def has_row(setting, space, row):
     return contains(setting[0], space, row)
 
 
+def contains_all(p, reduced, rows):
+    """Return whether all of the rows are in the span of the reduced rows."""
+    return all([contains(p, reduced, row) for row in rows])
+
+
 def is_inside(setting, one, other):
     """Return whether the subspace one is in the subspace other."""
-    check_setting(setting)
-    check_subspace(setting, one)
-    check_subspace(setting, other)
-    return all([contains(setting[0], other, row) for row in one])
+    check_two_subspaces(setting, one, other)
+    return contains_all(setting[0], other, one)

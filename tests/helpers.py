@@ -2,6 +2,7 @@
 
 from fractions import Fraction
 from itertools import product as tuples_of
+from math import gcd
 
 from smallspaces.errors import InvalidSetting
 
@@ -66,6 +67,14 @@ def not_rows(setting):
     return found
 
 
+def not_numbers(greatest):
+    """Return values that are no integers from 0 to greatest."""
+    found = [value for value in OBJECTS if type(value) is not int]
+    found = found + [-greatest - 1, greatest + 2, 2 * greatest + 1, 10 ** 50, -10 ** 50]
+    found = found + [(), [], (1,), [1], [0], "0", "1", b"1", Hostile()]
+    return found + [-1, greatest + 1]
+
+
 def plus(p, one, other):
     """Return the sum of two rows."""
     found = []
@@ -116,6 +125,12 @@ def all_spaces(setting):
     return found
 
 
+def least_and_greatest(setting):
+    """Return the subspace with only the zero row, and the one with all rows."""
+    n = setting[1]
+    return (), tuple([(0,) * place + (1,) + (0,) * (n - place - 1) for place in range(n)])
+
+
 def not_spaces(setting):
     """Return values that are no tuples of reduced rows of the setting."""
     p, n = setting
@@ -135,6 +150,27 @@ def not_spaces(setting):
         for entry in (True, False, -1, p, "0", None, Hostile()):
             found.append(((1, entry) + (0,) * (n - 2),))
     return found
+
+
+def spaces_by_rows(setting):
+    """Return a dict from the frozenset of the rows of each subspace to the subspace."""
+    return {frozenset(made_by_adding(setting, space)): space for space in all_spaces(setting)}
+
+
+def rows_of_spaces(setting):
+    """Return a dict from each subspace to the frozenset of its rows."""
+    return {space: rows for rows, space in spaces_by_rows(setting).items()}
+
+
+def some_pairs(setting, most=5000):
+    """Return all pairs of subspaces, or many of them if there are more than most."""
+    spaces = all_spaces(setting)
+    pairs = list(tuples_of(spaces, repeat=2))
+    # A step that shares no divisor with the number of subspaces meets each of them at both places of a pair.
+    step = len(pairs) // most + 1
+    while gcd(step, len(spaces)) > 1:
+        step += 1
+    return pairs[::step]
 
 
 def numbers(many, seed):

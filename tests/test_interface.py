@@ -5,10 +5,13 @@ import importlib
 import inspect
 import unittest
 
-from smallspaces.errors import InvalidNumber, InvalidRow, InvalidRows, InvalidSetting, InvalidSubspace
+from smallspaces.counting import all_subspaces, between, count_flags, count_subspaces
+from smallspaces.distances import distance, is_road, road
+from smallspaces.errors import InvalidNumber, InvalidRow, InvalidRows, InvalidSetting, InvalidSubspace, NotInside
+from smallspaces.meeting import complements, meet, opposite, sum_of
 from smallspaces.rows import combine, is_row, is_setting, product
 from smallspaces.spans import has_row, is_inside, is_subspace, members, span
-from tests.helpers import SETTINGS, all_rows, all_spaces, some_rows
+from tests.helpers import SETTINGS, all_rows, all_spaces, least_and_greatest, some_rows
 
 FUNCTIONS = {
     "smallspaces.rows": {
@@ -24,6 +27,23 @@ FUNCTIONS = {
         "has_row": ["setting", "space", "row"],
         "is_inside": ["setting", "one", "other"],
     },
+    "smallspaces.meeting": {
+        "sum_of": ["setting", "one", "other"],
+        "meet": ["setting", "one", "other"],
+        "opposite": ["setting", "space"],
+        "complements": ["setting", "space"],
+    },
+    "smallspaces.counting": {
+        "count_subspaces": ["setting", "k"],
+        "all_subspaces": ["setting", "k"],
+        "between": ["setting", "one", "other", "k"],
+        "count_flags": ["setting"],
+    },
+    "smallspaces.distances": {
+        "distance": ["setting", "one", "other"],
+        "road": ["setting", "one", "other"],
+        "is_road": ["setting", "one", "other", "value"],
+    },
 }
 
 # The examples that the interface gives.
@@ -37,6 +57,18 @@ EXAMPLES = [
     (members, ((2, 2), ((1, 1),)), [(0, 0), (1, 1)]),
     (has_row, ((2, 2), ((1, 1),), (1, 0)), False),
     (is_inside, ((2, 2), (), ((1, 1),)), True),
+    (meet, ((2, 2), ((1, 0),), ((0, 1),)), ()),
+    (opposite, ((2, 2), ((1, 1),)), ((1, 1),)),
+    (complements, ((2, 2), ((1, 1),)), [((0, 1),), ((1, 0),)]),
+    (count_subspaces, ((2, 3), 1), 7),
+    (all_subspaces, ((2, 2), 1), [((0, 1),), ((1, 0),), ((1, 1),)]),
+    (between, ((2, 2), (), ((1, 0), (0, 1)), 1), [((0, 1),), ((1, 0),), ((1, 1),)]),
+    (count_flags, ((2, 3),), 21),
+    (distance, ((2, 2), ((1, 0),), ((0, 1),)), 2),
+    (road, ((2, 1), (), ((1,),)), [(), ((1,),)]),
+    (is_road, ((2, 1), (), (), [()]), True),
+    # The interface gives none for sum_of.
+    (sum_of, ((2, 2), ((1, 0),), ((0, 1),)), ((1, 0), (0, 1))),
 ]
 
 # Calls that raise an exception, with lists in their arguments.
@@ -56,6 +88,21 @@ WRONG_CALLS = [
     (has_row, ((2, 2), ((1, 1),), [1, 1]), InvalidRow),
     (is_inside, ((2, 2), [(1, 1), (1, 0)], ((1, 1),)), InvalidSubspace),
     (is_inside, ((2, 2), ((1, 1),), [(1, 1), (1, 0)]), InvalidSubspace),
+    (sum_of, ((2, 2), [(1, 1), (1, 0)], ((1, 1),)), InvalidSubspace),
+    (sum_of, ((2, 2), ((1, 1),), [(1, 1), (1, 0)]), InvalidSubspace),
+    (meet, ([2, 2], ((1, 1),), ((1, 1),)), InvalidSetting),
+    (meet, ((2, 2), ((1, 1),), [(1, 1), (1, 0)]), InvalidSubspace),
+    (opposite, ((2, 2), [(1, 1), (1, 0)]), InvalidSubspace),
+    (complements, ((2, 2), [(1, 1), (1, 0)]), InvalidSubspace),
+    (count_subspaces, ((2, 3), [1]), InvalidNumber),
+    (all_subspaces, ((2, 2), [1]), InvalidNumber),
+    (between, ((2, 2), ((1, 1),), [(1, 1), (1, 0)], 0), InvalidSubspace),
+    (between, ((2, 2), ((1, 1),), (), [0]), NotInside),
+    (between, ((2, 2), (), ((1, 1),), [0]), InvalidNumber),
+    (count_flags, ([2, 3],), InvalidSetting),
+    (distance, ((2, 2), ((1, 0),), [(1, 1), (1, 0)]), InvalidSubspace),
+    (road, ((2, 1), (), [(1,), (0,)]), InvalidSubspace),
+    (is_road, ((2, 1), (), [], [(), []]), InvalidSubspace),
 ]
 
 
@@ -75,6 +122,36 @@ def valid_calls(setting):
     for space in spaces[::5] + spaces[-1:]:
         calls = calls + [(members, (setting, space)), (has_row, (setting, space, one))]
         calls = calls + [(is_inside, (setting, space, spaces[-1])), (is_inside, (setting, spaces[-1], space))]
+    return calls + calls_of_one_space(setting) + calls_of_two_spaces(setting) + calls_that_count(setting)
+
+
+def calls_of_one_space(setting):
+    """Return some calls of the functions that take one subspace."""
+    spaces = all_spaces(setting)
+    chosen = spaces[::len(spaces) // 10 + 1] + spaces[-1:]
+    return [(function, (setting, space)) for space in chosen for function in (members, opposite, complements)]
+
+
+def calls_of_two_spaces(setting):
+    """Return some calls of the functions that take two subspaces."""
+    spaces = all_spaces(setting)
+    chosen = spaces[::len(spaces) // 6 + 1] + spaces[-1:]
+    calls = []
+    for one in chosen:
+        for other in chosen:
+            calls = calls + [(function, (setting, one, other)) for function in (sum_of, meet, distance, road)]
+            for value in ([one, other], [one, (), other], [()], [list(one)], []):
+                calls.append((is_road, (setting, one, other, value)))
+    return calls
+
+
+def calls_that_count(setting):
+    """Return some calls of the functions of smallspaces.counting."""
+    least, greatest = least_and_greatest(setting)
+    calls = [(count_flags, (setting,))]
+    for k in range(setting[1] + 1):
+        calls = calls + [(count_subspaces, (setting, k)), (all_subspaces, (setting, k))]
+        calls = calls + [(between, (setting, least, greatest, k)), (between, (setting, least, greatest[:k], k))]
     return calls
 
 
@@ -128,13 +205,24 @@ class EveryFunctionTest(unittest.TestCase):
 
     def test_a_returned_list_is_a_new_list(self):
         for setting in SETTINGS:
-            for space in all_spaces(setting):
-                found = members(setting, space)
-                expected = list(found)
-                self.assertIsNot(members(setting, space), found)
-                found.append("changed by its caller")
-                found[0] = None
-                self.assertEqual(members(setting, space), expected)
+            for function, arguments in valid_calls(setting):
+                found = function(*arguments)
+                if isinstance(found, list):
+                    expected = list(found)
+                    self.assertIsNot(function(*arguments), found)
+                    found.append("changed by its caller")
+                    found[0] = None
+                    self.assertEqual(function(*arguments), expected, function.__name__)
+
+    def test_returned_lists_that_their_callers_change_change_no_answer_of_any_function(self):
+        for setting in SETTINGS:
+            calls = valid_calls(setting)
+            found = [function(*arguments) for function, arguments in calls]
+            expected = copy.deepcopy(found)
+            for result in found:
+                if isinstance(result, list):
+                    result.clear()
+            self.assertEqual([function(*arguments) for function, arguments in calls], expected)
 
     def test_a_list_that_its_caller_changes_gives_a_new_answer(self):
         rows = [(1, 0)]
@@ -143,6 +231,11 @@ class EveryFunctionTest(unittest.TestCase):
         self.assertEqual(span((2, 2), rows), ((0, 1),))
         rows.append((1, 1))
         self.assertEqual(span((2, 2), rows), ((1, 0), (0, 1)))
+        steps = [()]
+        self.assertIs(is_road((2, 1), (), (), steps), True)
+        steps.append(((1,),))
+        self.assertIs(is_road((2, 1), (), (), steps), False)
+        self.assertIs(is_road((2, 1), (), ((1,),), steps), True)
 
     def test_a_call_that_raises_changes_nothing(self):
         for function, arguments, expected in WRONG_CALLS:

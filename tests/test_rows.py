@@ -5,14 +5,8 @@ import unittest
 from smallspaces.errors import InvalidNumber, InvalidRow
 from smallspaces.rows import combine, is_row, is_setting, product
 from tests.helpers import (
-    NOT_SETTINGS, OBJECTS, SETTINGS, Hostile, all_rows, check_all_exceptions, not_rows, setting_fault,
+    NOT_SETTINGS, SETTINGS, all_rows, check_all_exceptions, not_numbers, not_rows, setting_fault,
 )
-
-
-def not_factors(p):
-    """Return values that are no integers from 0 to p - 1."""
-    found = [value for value in OBJECTS if type(value) is not int]
-    return found + [-1, -p, p, p + 1, 2 * p, 10 ** 50, -10 ** 50, (), [], (1,), [1], "1", b"1", Hostile()]
 
 
 class SettingTest(unittest.TestCase):
@@ -104,7 +98,7 @@ class CombineTest(unittest.TestCase):
     def test_exceptions(self):
         for setting in SETTINGS:
             rows = all_rows(setting)
-            wrong_row, wrong_factor = not_rows(setting), not_factors(setting[0])
+            wrong_row, wrong_factor = not_rows(setting), not_numbers(setting[0] - 1)
             faults = [setting_fault(), (1, InvalidRow, wrong_row), (2, InvalidNumber, wrong_factor)]
             faults.append((3, InvalidRow, wrong_row))
             for factor in range(setting[0]):
