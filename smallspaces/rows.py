@@ -65,6 +65,11 @@ def add_multiple(p, one, factor, other):
     return tuple([(entry + factor * added) % p for entry, added in zip(one, other)])
 
 
+def unit_row(length, place):
+    """Return the row of this length with 1 at one place and 0 at all others."""
+    return tuple([int(at == place) for at in range(length)])
+
+
 def product(setting, one, other):
     """Return the product of two rows."""
     check_setting(setting)

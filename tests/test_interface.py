@@ -5,9 +5,15 @@ import importlib
 import inspect
 import unittest
 
+from smallspaces.builder import Builder
 from smallspaces.counting import all_subspaces, between, count_flags, count_subspaces
 from smallspaces.distances import distance, is_road, road
-from smallspaces.errors import InvalidNumber, InvalidRow, InvalidRows, InvalidSetting, InvalidSubspace, NotInside
+from smallspaces.equations import count_solutions, refutation, solve
+from smallspaces.errors import (
+    InvalidNumber, InvalidRow, InvalidRows, InvalidSetting, InvalidSubspace, InvalidSystem, NoSolution, NotInside,
+    ParseError,
+)
+from smallspaces.formatting import format_space, parse_space
 from smallspaces.meeting import complements, meet, opposite, sum_of
 from smallspaces.rows import combine, is_row, is_setting, product
 from smallspaces.spans import has_row, is_inside, is_subspace, members, span
@@ -44,6 +50,15 @@ FUNCTIONS = {
         "road": ["setting", "one", "other"],
         "is_road": ["setting", "one", "other", "value"],
     },
+    "smallspaces.equations": {
+        "solve": ["setting", "system"],
+        "count_solutions": ["setting", "system"],
+        "refutation": ["setting", "system"],
+    },
+    "smallspaces.formatting": {
+        "format_space": ["setting", "space"],
+        "parse_space": ["text"],
+    },
 }
 
 # The examples that the interface gives.
@@ -67,6 +82,11 @@ EXAMPLES = [
     (distance, ((2, 2), ((1, 0),), ((0, 1),)), 2),
     (road, ((2, 1), (), ((1,),)), [(), ((1,),)]),
     (is_road, ((2, 1), (), (), [()]), True),
+    (solve, ((3, 2), (((1, 1), 2),)), ((0, 2), ((1, 2),))),
+    (count_solutions, ((3, 2), (((1, 1), 2),)), 3),
+    (refutation, ((2, 1), (((1,), 0), ((1,), 1))), (1, 1)),
+    (format_space, ((2, 3), ((1, 0, 1), (0, 1, 1))), "2 3\n101\n011"),
+    (parse_space, ("2 3\n101\n011",), ((2, 3), ((1, 0, 1), (0, 1, 1)))),
     # The interface gives none for sum_of.
     (sum_of, ((2, 2), ((1, 0),), ((0, 1),)), ((1, 0), (0, 1))),
 ]
@@ -103,6 +123,16 @@ WRONG_CALLS = [
     (distance, ((2, 2), ((1, 0),), [(1, 1), (1, 0)]), InvalidSubspace),
     (road, ((2, 1), (), [(1,), (0,)]), InvalidSubspace),
     (is_road, ((2, 1), (), [], [(), []]), InvalidSubspace),
+    (solve, ((3, 2), [((1, 1), 2)]), InvalidSystem),
+    (solve, ((3, 2), (((1, 1), 2), [(1, 1), 2])), InvalidSystem),
+    (solve, ((3, 2), (((1, 1), 2), ((2, 2), 2))), NoSolution),
+    (count_solutions, ((3, 2), (([1, 1], 2),)), InvalidSystem),
+    (refutation, ((2, 1), (((1,), 0), ((1,), [1]))), InvalidSystem),
+    (format_space, ((2, 2), [(1, 1)]), InvalidSubspace),
+    (format_space, ((2, 2), ([1, 1],)), InvalidSubspace),
+    (parse_space, (["2 2", "11"],), ParseError),
+    (Builder, ([2, 2],), InvalidSetting),
+    (Builder((2, 2)).put, ([1, 1],), InvalidRow),
 ]
 
 
@@ -122,14 +152,17 @@ def valid_calls(setting):
     for space in spaces[::5] + spaces[-1:]:
         calls = calls + [(members, (setting, space)), (has_row, (setting, space, one))]
         calls = calls + [(is_inside, (setting, space, spaces[-1])), (is_inside, (setting, spaces[-1], space))]
-    return calls + calls_of_one_space(setting) + calls_of_two_spaces(setting) + calls_that_count(setting)
+    calls = calls + calls_of_one_space(setting) + calls_of_two_spaces(setting) + calls_that_count(setting)
+    return calls + calls_of_systems(setting)
 
 
 def calls_of_one_space(setting):
     """Return some calls of the functions that take one subspace."""
     spaces = all_spaces(setting)
     chosen = spaces[::len(spaces) // 10 + 1] + spaces[-1:]
-    return [(function, (setting, space)) for space in chosen for function in (members, opposite, complements)]
+    functions = (members, opposite, complements, format_space)
+    calls = [(function, (setting, space)) for space in chosen for function in functions]
+    return calls + [(parse_space, (format_space(setting, space),)) for space in chosen]
 
 
 def calls_of_two_spaces(setting):
@@ -153,6 +186,32 @@ def calls_that_count(setting):
         calls = calls + [(count_subspaces, (setting, k)), (all_subspaces, (setting, k))]
         calls = calls + [(between, (setting, least, greatest, k)), (between, (setting, least, greatest[:k], k))]
     return calls
+
+
+def calls_of_systems(setting):
+    """Return some calls of the functions of smallspaces.equations."""
+    calls = []
+    for many in range(9):
+        rows = some_rows(setting, many, many + 40)
+        for rights in ([0] * many, list(range(many))):
+            system = tuple((row, right % setting[0]) for row, right in zip(rows, rights))
+            calls = calls + [(count_solutions, (setting, system)), (refutation, (setting, system))]
+            if count_solutions(setting, system) > 0:
+                calls.append((solve, (setting, system)))
+    return calls
+
+
+def build_and_ask(setting, rows):
+    """Return all that a builder with these rows, and a duplicate of it, tell."""
+    builder = Builder(setting)
+    told = []
+    for row in rows:
+        told = told + [builder.put(row), builder.space(), builder.rows(), builder.missing(), str(builder), len(builder)]
+    duplicate = builder.duplicate()
+    told.append(duplicate == builder)
+    for row in rows:
+        told = told + [builder.undo(), builder.rows(), duplicate.put(row), duplicate.rows()]
+    return told
 
 
 class NamesTest(unittest.TestCase):
@@ -246,6 +305,27 @@ class EveryFunctionTest(unittest.TestCase):
                 self.assertEqual(arguments, before, function.__name__)
             for right_function, right_arguments, result in EXAMPLES:
                 self.assertEqual(right_function(*right_arguments), result)
+
+    def test_builders_tell_the_same_again_with_other_calls_in_between(self):
+        for setting in SETTINGS:
+            rows = some_rows(setting, 6, 50)
+            told = build_and_ask(setting, rows)
+            for function, arguments in valid_calls(setting)[::10]:
+                function(*arguments)
+            build_and_ask(setting, rows[::-1])
+            self.assertEqual(build_and_ask(setting, rows), told)
+
+    def test_calls_between_those_of_a_builder_do_not_change_it(self):
+        for setting in SETTINGS:
+            rows = some_rows(setting, 6, 51)
+            builder = Builder(setting)
+            for many, row in enumerate(rows):
+                builder.put(row)
+                found = span(setting, builder.rows())
+                build_and_ask(setting, rows)
+                for function, arguments in valid_calls(setting)[many::70]:
+                    function(*arguments)
+                self.assertEqual((builder.space(), builder.rows()), (found, rows[:many + 1]))
 
 
 if __name__ == "__main__":
